@@ -174,15 +174,15 @@ func drawnSteps(r *rand.Rand, many int, ticks int) []impl.CoverStep {
 	return out
 }
 
-// eachListOf are all lists of so many of these steps, each a new one.
-func eachListOf(from []impl.CoverStep, many int) iter.Seq[[]impl.CoverStep] {
-	return func(yield func([]impl.CoverStep) bool) {
+// eachListOf are all lists of so many of these, each a new one.
+func eachListOf[E any](from []E, many int) iter.Seq[[]E] {
+	return func(yield func([]E) bool) {
 		all := 1
 		for range many {
 			all *= len(from)
 		}
 		for n := range all {
-			var l []impl.CoverStep
+			var l []E
 			for rest := n; len(l) < many; rest /= len(from) {
 				l = append(l, from[rest%len(from)])
 			}
